@@ -432,9 +432,9 @@ func fullValues(s impl.Type) []impl.Value {
 	return list
 }
 
-// TestFociOfUnfitOptics has optics that are not typed for the source's type, though some would fit the value.
-func TestFociOfUnfitOptics(t *testing.T) {
-	rows := [][3]string{
+// unfitRows has types with values of them, and optics that are not typed for the types, though some would fit the values.
+func unfitRows() [][3]string {
+	return [][3]string{
 		{"{a:I,b:B}", "{a=1,b=#t}", ".c"}, {"{a:I}", "{a=1}", "?a"}, {"{a:I,b:B}", "{a=1,b=#t}", "all"}, {"{a:I}", "{a=1}", "each"}, {"{a:I}", "{a=1}", "at 0"}, {"{a:I}", "{a=1}", "rev"}, {"{a:I}", "{a=1}", "map id"},
 		{"<p:I,q:B>", "<p 1>", "?r"}, {"<p:I,q:B>", "<p 1>", ".p"}, {"<p:I>", "<p 1>", "all"}, {"<p:I>", "<p 1>", "each"}, {"<p:I>", "<p 1>", "at 0"},
 		{"[I]", "[1]", "all"}, {"[I]", "[1]", "add 1"}, {"[I]", "[1]", "map not"}, {"[I]", "[]", "map not"}, {"[[I]]", "[[1]]", "map each"}, {"[[I]]", "[[1]]", "map at 0"}, {"[[I]]", "[]", "map at 0"}, {"[I]", "[1]", "map (id|id)"}, {"[{a:I}]", "[{a=1}]", "map .a"}, {"[<p:I>]", "[<p 1>]", "map ?p"},
@@ -442,7 +442,10 @@ func TestFociOfUnfitOptics(t *testing.T) {
 		// The second part does not fit, though the first one has no focus, or one that would not need it.
 		{"[I]", "[]", "(each;not)"}, {"[I]", "[]", "(at 0;.a)"}, {"<p:I,q:B>", "<q #t>", "(?p;not)"}, {"<p:I,q:B>", "<p 1>", "(?p|?q)"}, {"<p:I,q:B>", "<p 1>", "(?p|?r)"}, {"<p:I,q:I>", "<p 1>", "(?p|not)"}, {"<p:I,q:I>", "<q 1>", "(?r|?q)"}, {"[I]", "[1]", "(at 0|each)"}, {"[I]", "[1]", "(each|at 0)"}, {"[I]", "[1]", "(at 0|id)"}, {"I", "1", "(.a;id)"}, {"{a:I,b:B}", "{a=1,b=#t}", "(.a|.b)"},
 	}
-	for _, row := range rows {
+}
+
+func TestFociOfUnfitOptics(t *testing.T) {
+	for _, row := range unfitRows() {
 		s, v, o := typeOfText(t, row[0]), valueOfText(t, row[1]), opticOfText(t, row[2])
 		if !isOneOf(v, s) {
 			t.Fatal(row)
@@ -465,15 +468,18 @@ func checkNoFociWithin(t *testing.T, s impl.Type, o impl.Optic, v impl.Value) {
 	}
 }
 
-// TestFociOfOtherValues has values that do not have the type, although the optic leads into them, or past what is wrong.
-func TestFociOfOtherValues(t *testing.T) {
-	rows := [][3]string{
+// otherValueRows has types with values that do not have them, although the optic leads into them, or past what is wrong.
+func otherValueRows() [][3]string {
+	return [][3]string{
 		{"I", "#t", "id"}, {"B", "1", "id"}, {"B", "0", "not"}, {"I", "#t", "add 1"}, {"I", "[]", "wrap w"}, {"{a:I}", "5", "id"}, {"[I]", "5", "id"}, {"<p:I>", "5", "id"},
 		{"{a:I,b:I}", "{a=1,c=2}", ".a"}, {"{a:I,b:I}", "{a=1}", ".a"}, {"{a:I,b:I}", "{a=1,b=#t}", ".a"}, {"{a:I}", "{a=1,b=2}", ".a"}, {"{a:I,b:I}", "{a=1,b=2,c=3}", "all"}, {"{a:I,b:I}", "{a=1,b=#t}", "all"}, {"{a:I}", "<a 1>", ".a"}, {"{a:I}", "[1]", "all"}, {"{a:[I],b:I}", "{a=[1,#t],b=1}", ".b"},
 		{"<p:I,q:B>", "<r 1>", "?p"}, {"<p:I,q:B>", "<p #t>", "?p"}, {"<p:I,q:B>", "<p #t>", "?q"}, {"<p:I,q:B>", "<q 1>", "?p"}, {"<p:I>", "{p=1}", "?p"}, {"<p:I,q:I>", "<r 1>", "(?p|?q)"},
 		{"[I]", "[1,#t]", "each"}, {"[I]", "[1,#t]", "at 0"}, {"[I]", "[#t]", "at 1"}, {"[I]", "[1,#t]", "rev"}, {"[I]", "[#t]", "map add 1"}, {"[I]", "[#t]", "map id"}, {"[I]", "{a=1}", "each"}, {"[[I]]", "[[1],2]", "(at 0;each)"}, {"[[I]]", "[[#t]]", "at 5"},
 	}
-	for _, row := range rows {
+}
+
+func TestFociOfOtherValues(t *testing.T) {
+	for _, row := range otherValueRows() {
 		s, v, o := typeOfText(t, row[0]), valueOfText(t, row[1]), opticOfText(t, row[2])
 		if _, kind := typeBy(s, o); kind == 0 {
 			t.Fatal(row)
